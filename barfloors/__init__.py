@@ -1,0 +1,1 @@
+"""Floors, boxes and rooms filled by bars."""

@@ -1,0 +1,39 @@
+"""The kinds that several modules ask for, and the refusals of what is none of them."""
+
+from barfloors.errors import NoLength, NoNumber
+
+LEAST_LENGTH = 2
+MOST_LENGTH = 5
+
+
+def is_whole(thing):
+    """Whether the thing is a whole number."""
+    # To Python True and False are numbers too; here they are none.
+    return isinstance(thing, int) and not isinstance(thing, bool)
+
+
+def is_whole_within(thing, least, most):
+    """Whether the thing is a whole number from least to most."""
+    return is_whole(thing) and least <= thing <= most
+
+
+def is_rising(things):
+    """Whether each thing of a list or tuple is greater than the one ahead; all are of one kind."""
+    return all([things[at - 1] < things[at] for at in range(1, len(things))])
+
+
+def is_length(thing):
+    """Whether the thing is a length."""
+    return is_whole_within(thing, LEAST_LENGTH, MOST_LENGTH)
+
+
+def need_number(thing, least, most):
+    """Refuse what is no whole number from least to most."""
+    if not is_whole_within(thing, least, most):
+        raise NoNumber(f"a whole number from {least} to {most} is wanted")
+
+
+def need_length(thing):
+    """Refuse what is no length."""
+    if not is_length(thing):
+        raise NoLength(f"a length is a whole number from {LEAST_LENGTH} to {MOST_LENGTH}")
