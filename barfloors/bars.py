@@ -45,3 +45,26 @@ def bars_of(floor, length):
     # A bar within a floor begins at a cell of it; cells rise, so the bars do too.
     bars = [(row, column, way) for row, column in floor for way in (ACROSS, DOWN)]
     return [bar for bar in bars if is_within(floor, bar, length)]
+
+
+def covered_by(bars, length):
+    """The list of the places that bars cover, each as often as it is covered."""
+    return [place for bar in bars for place in places_of(bar, length)]
+
+
+def steps_of(floor, length):
+    """For each cell, in order, the list of the bars that begin there, each with the lot of cells that it covers.
+
+    A lot of cells is a whole number, with a bit for each cell of the floor, in their order.
+    """
+    bits = {cell: 1 << at for at, cell in enumerate(floor)}
+    steps = {cell: [] for cell in floor}
+    for bar in bars_of(floor, length):
+        places = places_of(bar, length)
+        steps[places[0]].append((bar, sum([bits[place] for place in places])))
+    return [steps[cell] for cell in floor]
+
+
+def first_open(lot):
+    """The number of the first cell that is not in a lot of cells."""
+    return (lot ^ (lot + 1)).bit_length() - 1

@@ -4,6 +4,7 @@ from barfloors.errors import NoLength, NoNumber
 
 LEAST_LENGTH = 2
 MOST_LENGTH = 5
+MOST_SIDE = 10 ** 9
 
 
 def is_whole(thing):
@@ -25,6 +26,11 @@ def is_rising(things):
 def is_length(thing):
     """Whether the thing is a length."""
     return is_whole_within(thing, LEAST_LENGTH, MOST_LENGTH)
+
+
+def is_side(thing):
+    """Whether the thing is a side of a box."""
+    return is_whole_within(thing, 1, MOST_SIDE)
 
 
 def need_number(thing, least, most):

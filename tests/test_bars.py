@@ -3,9 +3,7 @@ import unittest
 from barfloors.bars import bars_of, cells_of, is_bar, is_within
 from barfloors.errors import NoBars, NoLength
 from barfloors.floors import box_floor
-from tests.things import FORTY_FIGURES, drawn, odd_things, subsets_of_box
-
-NO_LENGTHS = [0, 1, 6, -2, -1, 7, 40]
+from tests.things import FORTY_FIGURES, bars_by_trying, drawn, no_lengths, odd_things, subsets_of_box
 
 
 class IsBar(unittest.TestCase):
@@ -112,27 +110,16 @@ class CellsOf(unittest.TestCase):
                     cells_of(bar, length)
 
     def test_what_is_no_length(self):
-        for length in odd_things() + NO_LENGTHS:
+        for length in no_lengths():
             for bar in ((0, 0, 0), (-40, 40, 1)):
                 with self.assertRaises(NoLength):
                     cells_of(bar, length)
 
     def test_the_bar_is_looked_at_ahead_of_the_length(self):
         for bar in (None, (0, 0, 2), (41, 0, 0), [0, 0, 0]):
-            for length in odd_things() + NO_LENGTHS:
+            for length in no_lengths():
                 with self.assertRaises(NoBars):
                     cells_of(bar, length)
-
-
-def bars_by_trying(floor, length):
-    """All bars within the floor, found by trying each that begins anywhere near."""
-    found = []
-    for row in range(-6, 14):
-        for column in range(-6, 14):
-            across = {(row, column + step) for step in range(length)}
-            down = {(row + step, column) for step in range(length)}
-            found += [(row, column, way) for way, cells in ((0, across), (1, down)) if cells <= set(floor)]
-    return found
 
 
 class BarsOf(unittest.TestCase):
@@ -194,7 +181,7 @@ class BarsOf(unittest.TestCase):
         self.assertEqual(bars_of(floor, 2), [(6, 7, 1), (7, 6, 0)])
 
     def test_what_is_no_length(self):
-        for length in odd_things() + NO_LENGTHS:
+        for length in no_lengths():
             for floor in ((), ((0, 0),), box_floor(5, 8)):
                 with self.assertRaises(NoLength):
                     bars_of(floor, length)

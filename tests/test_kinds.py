@@ -1,7 +1,7 @@
 import unittest
 
 from barfloors.errors import NoLength, NoNumber
-from barfloors.kinds import is_length, is_rising, is_whole, need_length, need_number
+from barfloors.kinds import is_length, is_rising, is_side, is_whole, need_length, need_number
 from tests.things import FORTY_FIGURES, odd_things
 
 
@@ -37,6 +37,18 @@ class Lengths(unittest.TestCase):
             self.assertIs(is_length(thing), False)
             with self.assertRaises(NoLength):
                 need_length(thing)
+
+
+class Sides(unittest.TestCase):
+    def test_sides_are_one_to_a_thousand_millions(self):
+        for number in (1, 2, 8, 40, 10 ** 9 - 1, 10 ** 9):
+            self.assertIs(is_side(number), True)
+        for number in (0, -1, 10 ** 9 + 1, FORTY_FIGURES, -FORTY_FIGURES):
+            self.assertIs(is_side(number), False)
+
+    def test_other_kinds_are_no_side(self):
+        for thing in odd_things():
+            self.assertIs(is_side(thing), False)
 
 
 class Rising(unittest.TestCase):

@@ -1,8 +1,12 @@
 """Things of every kind that the tests hand in, and plain reckonings to compare with."""
 
+import functools
 import itertools
+import random
+import unittest
 
 FORTY_FIGURES = 10 ** 40 - 1
+LENGTHS = (2, 3, 4, 5)
 
 
 def nest(deep, inner):
@@ -28,6 +32,11 @@ def odd_things():
     ]
 
 
+def no_lengths():
+    """Things that are no length; new ones each time."""
+    return odd_things() + [0, 1, 6, -2, -1, 7, 40, (), (2,), [2], "2", {2: 2}]
+
+
 def subsets_of_box(high, wide):
     """Every floor whose cells lie in the box."""
     cells = list(itertools.product(range(high), range(wide)))
@@ -38,3 +47,60 @@ def subsets_of_box(high, wide):
 def drawn(*rows):
     """The floor drawn by rows of # for cells."""
     return tuple((row, column) for row, line in enumerate(rows) for column, sign in enumerate(line) if sign == "#")
+
+
+def some_floors():
+    """Floors of every size: none, one and forty cells, boxes, with holes, in pieces, and scattered ones."""
+    cells = list(itertools.product(range(8), range(8)))
+    floors = [(), ((0, 0),), ((7, 7),), ((0, 0), (0, 1)), ((6, 7), (7, 7)), ((0, 0), (1, 1))]
+    floors += [tuple(itertools.product(range(high), range(wide))) for high, wide in (
+        (1, 8), (8, 1), (2, 2), (2, 5), (3, 4), (4, 4), (5, 5), (6, 6), (5, 8), (8, 5), (4, 8), (7, 5))]
+    floors += [
+        drawn("###", "#.#", "###"), drawn("####", "#..#", "####"), drawn(".##.", "####", "####", ".##."),
+        drawn("########", "#..##..#", "########", "##.##.##", "####"), drawn("#######", "########", ".#######"),
+        tuple(cells[24:]), tuple(cells[:40]), drawn(".......#", "......##", ".....###", "....####", "...#####"),
+    ]
+    # The same floors in each run: the numbers that choose them hang on a written seed.
+    chance = random.Random(7)
+    for many in (3, 8, 12, 20, 24, 30, 36, 39, 40, 40):
+        floors.append(tuple(sorted(chance.sample(cells, many))))
+        start = chance.randrange(0, len(cells) - many)
+        floors.append(tuple(sorted(chance.sample(cells[start:], min(many, len(cells) - start)))))
+    return floors
+
+
+def cells_by_hand(bar, length):
+    row, column, way = bar
+    return [(row + step * way, column + step * (1 - way)) for step in range(length)]
+
+
+def bars_by_trying(floor, length):
+    """All bars within the floor, found by trying each that begins at a cell or just outside."""
+    cells = set(floor)
+    bars = itertools.product(range(-1, 9), range(-1, 9), (0, 1))
+    return [bar for bar in bars if cells.issuperset(cells_by_hand(bar, length))]
+
+
+@functools.cache
+def packings_by_trying(floor, length):
+    """All packings of the floor, found by leaving or taking each bar, in rising order."""
+    packings = [((), frozenset())]
+    for bar in bars_by_trying(floor, length):
+        cells = frozenset(cells_by_hand(bar, length))
+        packings += [(bars + (bar,), covered | cells) for bars, covered in packings if not covered & cells]
+    return sorted(bars for bars, covered in packings)
+
+
+def fillings_by_trying(floor, length):
+    return [bars for bars in packings_by_trying(floor, length) if len(bars) * length == len(floor)]
+
+
+class Asking(unittest.TestCase):
+    def refuses(self, error, deed, *things):
+        """The deed refuses the things by this very class, and changes none of them."""
+        before = repr(things)
+        with self.assertRaises(error) as caught:
+            deed(*things)
+        self.assertIs(caught.exception.__class__, error)
+        self.assertEqual(repr(things), before)
+        return caught.exception
