@@ -146,7 +146,8 @@ class MostPacking(Asking):
     def test_middling_floors_by_trying(self):
         for floor, lengths in (
                 (box_floor(5, 5), (3, 4, 5)), (box_floor(4, 6), (3, 4, 5)), (box_floor(4, 4), (2, 3, 4)),
-                (drawn("####", "#..#", "####", "#.##"), LENGTHS), (drawn("..###", ".####", "#####", "####", "#"), LENGTHS)):
+                (drawn("####", "#..#", "####", "#.##"), LENGTHS),
+                (drawn("..###", ".####", "#####", "####", "#"), LENGTHS)):
             for length in lengths:
                 self.look(floor, length, max(len(packing) for packing in packings_by_trying(floor, length)))
 
