@@ -13,6 +13,18 @@ def is_filling(floor, length, thing):
     return is_packing(floor, length, thing) and len(thing) * length == len(floor)
 
 
+def need_filling(floor, length, thing):
+    """Refuse what is no filling of the floor by bars of the length."""
+    if not is_filling(floor, length, thing):
+        raise NoBars("a filling of the floor is wanted")
+
+
+def need_listed(many):
+    """Refuse more fillings than are listed."""
+    if many > MOST_LISTED:
+        raise TooMany(many, MOST_LISTED)
+
+
 class Ways:
     """The ways to cover a floor by one bar behind the other, each from the first open cell on.
 
@@ -118,8 +130,7 @@ def filling_at(floor, length, number):
 
 def number_of(floor, length, filling):
     """The number of the filling."""
-    if not is_filling(floor, length, filling):
-        raise NoBars("a filling of the floor is wanted")
+    need_filling(floor, length, filling)
     return Ways(floor, length).many_ahead(filling)
 
 
@@ -127,8 +138,7 @@ def all_fillings(floor, length):
     """The rising list of all fillings, where there are not too many."""
     ways = Ways(floor, length)
     many = ways.how_many()
-    if many > MOST_LISTED:
-        raise TooMany(many, MOST_LISTED)
+    need_listed(many)
     return [ways.filling_behind(number) for number in range(many)]
 
 

@@ -18,6 +18,11 @@ def is_whole_within(thing, least, most):
     return is_whole(thing) and least <= thing <= most
 
 
+def are_wholes(thing, least, most):
+    """Whether the thing is a tuple of at least so many and at most so many whole numbers."""
+    return isinstance(thing, tuple) and least <= len(thing) <= most and all([is_whole(number) for number in thing])
+
+
 def is_rising(things):
     """Whether each thing of a list or tuple is greater than the one ahead; all are of one kind."""
     return all([things[at - 1] < things[at] for at in range(1, len(things))])

@@ -1,19 +1,16 @@
 """Weights by which each bar weighs nothing, and what a floor weighs by them."""
 
 from barfloors.errors import NoWeights
-from barfloors.kinds import is_whole, need_length
+from barfloors.kinds import are_wholes, need_length
 from barfloors.rests import first_apart
-
-
-def is_line_of(thing, length):
-    """Whether the thing is a tuple of as many whole numbers as the length tells."""
-    return isinstance(thing, tuple) and len(thing) == length and all([is_whole(number) for number in thing])
 
 
 def are_weights(length, thing):
     """Whether the thing, of whatever kind, is weights of the length."""
     need_length(length)
-    if not isinstance(thing, tuple) or len(thing) != length or not all([is_line_of(line, length) for line in thing]):
+    if not isinstance(thing, tuple) or len(thing) != length:
+        return False
+    if not all([are_wholes(line, length, length) for line in thing]):
         return False
     if not all([sum(line) == 0 for line in thing]):
         return False

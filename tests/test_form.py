@@ -121,6 +121,22 @@ class Form(unittest.TestCase):
             if isinstance(part.ctx, ast.Store):
                 self.assertNotIn(part.id, OWN_NAMES, file_name)
 
+    def test_nothing_in_a_def_is_called_like_an_import_or_a_class(self):
+        for file_name, tree in self.trees.items():
+            taken = {name for _, name, _ in drawn_by(tree)}
+            taken |= {row.name for row in tree.body if isinstance(row, ast.ClassDef)}
+            for part in ast.walk(tree):
+                if isinstance(part, ast.arg):
+                    self.assertNotIn(part.arg, taken, file_name)
+                if isinstance(part, ast.Name) and isinstance(part.ctx, ast.Store):
+                    self.assertNotIn(part.id, taken, file_name)
+
+    def test_no_name_is_a_method_and_a_value(self):
+        methods = {row.name for _, part in self.each_part(ast.ClassDef) for row in part.body
+                   if isinstance(row, ast.FunctionDef)}
+        values = {part.attr for _, part in self.each_part(ast.Attribute) if isinstance(part.ctx, ast.Store)}
+        self.assertEqual(methods & values, set())
+
     def test_each_name_is_bound_once_at_the_top(self):
         for file_name, tree in self.trees.items():
             names = bound_at_top(tree) + [name for _, name, _ in drawn_by(tree)]

@@ -1,7 +1,7 @@
 import unittest
 
 from barfloors.errors import NoLength, NoNumber
-from barfloors.kinds import is_length, is_rising, is_side, is_whole, need_length, need_number
+from barfloors.kinds import are_wholes, is_length, is_rising, is_side, is_whole, need_length, need_number
 from tests.things import FORTY_FIGURES, odd_things
 
 
@@ -26,6 +26,17 @@ class WholeNumbers(unittest.TestCase):
         for thing in odd_things():
             with self.assertRaises(NoNumber):
                 need_number(thing, 0, 200)
+
+
+class SeveralNumbers(unittest.TestCase):
+    def test_so_many_whole_numbers(self):
+        for many in range(6):
+            self.assertIs(are_wholes((FORTY_FIGURES,) * many, 2, 4), 2 <= many <= 4)
+        self.assertIs(are_wholes((), 0, 0), True)
+
+    def test_lists_truths_and_other_parts(self):
+        for thing in ([0, 0], "00", {0: 0, 1: 1}, None, 0, (0, True), (False, 0), (0, None), (0, "0"), ((0, 0),)):
+            self.assertIs(are_wholes(thing, 1, 4), False)
 
 
 class Lengths(unittest.TestCase):

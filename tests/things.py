@@ -95,6 +95,29 @@ def fillings_by_trying(floor, length):
     return [bars for bars in packings_by_trying(floor, length) if len(bars) * length == len(floor)]
 
 
+def strips_by_cells(width, length, columns):
+    """How many fillings a strip has, counted cell by cell, each column from its upper end to its lower one."""
+    # A bit for each cell from this one on that is covered already.
+    lots = {0: 1}
+    across = sum(1 << width * step for step in range(length))
+    down = (1 << length) - 1
+    for column, row in itertools.product(range(columns), range(width)):
+        behind = {}
+        for lot, many in lots.items():
+            steps = []
+            if lot & 1:
+                steps.append(lot)
+            else:
+                if column + length <= columns:
+                    steps.append(lot | across)
+                if row + length <= width and not lot & down:
+                    steps.append(lot | down)
+            for step in steps:
+                behind[step >> 1] = behind.get(step >> 1, 0) + many
+        lots = behind
+    return lots.get(0, 0)
+
+
 class Asking(unittest.TestCase):
     def refuses(self, error, deed, *things):
         """The deed refuses the things by this very class, and changes none of them."""
