@@ -52,17 +52,22 @@ def covered_by(bars, length):
     return [place for bar in bars for place in places_of(bar, length)]
 
 
-def steps_of(floor, length):
+def steps_among(cells, covers):
     """For each cell, in order, the list of the bars that begin there, each with the lot of cells that it covers.
 
-    A lot of cells is a whole number, with a bit for each cell of the floor, in their order.
+    The covers are bars, each with the list or tuple of its cells, the first one first. A lot of cells is a whole
+    number, with a bit for each cell, in their order.
     """
-    bits = {cell: 1 << at for at, cell in enumerate(floor)}
-    steps = {cell: [] for cell in floor}
-    for bar in bars_of(floor, length):
-        places = places_of(bar, length)
-        steps[places[0]].append((bar, sum([bits[place] for place in places])))
-    return [steps[cell] for cell in floor]
+    bits = {cell: 1 << at for at, cell in enumerate(cells)}
+    steps = {cell: [] for cell in cells}
+    for bar, covered in covers:
+        steps[covered[0]].append((bar, sum([bits[cell] for cell in covered])))
+    return [steps[cell] for cell in cells]
+
+
+def steps_of(floor, length):
+    """The steps among the cells of the floor, by the bars of the length within it."""
+    return steps_among(floor, [(bar, places_of(bar, length)) for bar in bars_of(floor, length)])
 
 
 def first_open(lot):

@@ -26,16 +26,17 @@ def need_listed(many):
 
 
 class Ways:
-    """The ways to cover a floor by one bar behind the other, each from the first open cell on.
+    """The ways to cover all cells by one bar behind the other, each from the first open cell on.
 
-    Bars that are laid so rise, and at each cell one across goes ahead of one down: so the ways are ordered as the
-    fillings are. Lots of covered cells that are met by several ways are kept once, with how many ways lead to them,
-    and how many from them to fillings.
+    The steps are, for each cell in order, the rising list of the bars that begin there, each with the lot of cells
+    that it covers. So bars are laid in rising order, and the ways are ordered as the fillings are. Lots of covered
+    cells that are met by several ways are kept once, with how many ways lead to them, and how many from them to
+    fillings.
     """
 
-    def __init__(self, floor, length):
-        self.steps = steps_of(floor, length)
-        self.full = (1 << len(floor)) - 1
+    def __init__(self, steps):
+        self.steps = steps
+        self.full = (1 << len(steps)) - 1
         self.layers = []
         self.onward = {self.full: 1}
         self.count_to()
@@ -108,14 +109,19 @@ class Ways:
         return counts
 
 
+def ways_of(floor, length):
+    """The ways to cover the floor by bars of the length."""
+    return Ways(steps_of(floor, length))
+
+
 def many_fillings(floor, length):
     """How many fillings of the floor by bars of the length there are."""
-    return Ways(floor, length).how_many()
+    return ways_of(floor, length).how_many()
 
 
 def first_filling(floor, length):
     """The first filling, None where there is none."""
-    ways = Ways(floor, length)
+    ways = ways_of(floor, length)
     if ways.how_many() == 0:
         return None
     return ways.filling_behind(0)
@@ -123,7 +129,7 @@ def first_filling(floor, length):
 
 def filling_at(floor, length, number):
     """The filling of the number."""
-    ways = Ways(floor, length)
+    ways = ways_of(floor, length)
     need_number(number, 0, ways.how_many() - 1)
     return ways.filling_behind(number)
 
@@ -131,12 +137,12 @@ def filling_at(floor, length, number):
 def number_of(floor, length, filling):
     """The number of the filling."""
     need_filling(floor, length, filling)
-    return Ways(floor, length).many_ahead(filling)
+    return ways_of(floor, length).many_ahead(filling)
 
 
 def all_fillings(floor, length):
     """The rising list of all fillings, where there are not too many."""
-    ways = Ways(floor, length)
+    ways = ways_of(floor, length)
     many = ways.how_many()
     need_listed(many)
     return [ways.filling_behind(number) for number in range(many)]
@@ -144,7 +150,7 @@ def all_fillings(floor, length):
 
 def bar_counts(floor, length):
     """A dict with, for each bar within the floor, how many fillings have it."""
-    return Ways(floor, length).counts_of_bars()
+    return ways_of(floor, length).counts_of_bars()
 
 
 def many_with(floor, length, bar):

@@ -26,6 +26,8 @@ PARTS = set("""
 WORDS = re.compile(
     r"\b(type|typing|typing_extensions|enum|Enum|IntEnum|StrEnum|Flag|IntFlag|Generic|Protocol|ABC|ABCMeta|namedtuple"
     r"|NamedTuple|TypedDict|TYPE_CHECKING|abstractmethod)\b|dataclass|overload|contextmanager")
+# The methods of Python's own values that the package calls, of those that it may call.
+CALLED = set("add append get index items join partition pop split bit_length".split())
 UNUSED_NAMES = set("""
     register mro elements open input version_info with_traceback add_note format format_map attrgetter breakpoint
     builtins compile copyright credits delattr dir eval exec exit gc getattr globals hasattr help id importlib license
@@ -130,6 +132,13 @@ class Form(unittest.TestCase):
                     self.assertNotIn(part.arg, taken, file_name)
                 if isinstance(part, ast.Name) and isinstance(part.ctx, ast.Store):
                     self.assertNotIn(part.id, taken, file_name)
+
+    def test_methods_that_are_called(self):
+        own = {row.name for _, part in self.each_part(ast.ClassDef) for row in part.body
+               if isinstance(row, ast.FunctionDef)}
+        for file_name, part in self.each_part(ast.Call):
+            if isinstance(part.func, ast.Attribute):
+                self.assertIn(part.func.attr, own | CALLED, file_name)
 
     def test_no_name_is_a_method_and_a_value(self):
         methods = {row.name for _, part in self.each_part(ast.ClassDef) for row in part.body
